@@ -117,6 +117,14 @@ type list struct {
 	e    api.Errno
 }
 
+// checked is what dots.Check returns for a list that dots.Make refuses: it counts all elements, repeated or not, before it looks at them.
+func (bad list) checked() api.Errno {
+	if len(bad.l) > 64 {
+		return api.ErrLong
+	}
+	return bad.e
+}
+
 // badLists are lists that dots.Make refuses.
 func badLists(t *testing.T) []list {
 	t.Helper()
@@ -133,6 +141,10 @@ func badLists(t *testing.T) []list {
 		{"1025 ids, the last not valid", put(row(1025), 1024, bad), api.ErrLong},
 		{"1025 zero ids", make([]api.Id, 1025), api.ErrLong},
 		{"1024 zero ids", make([]api.Id, 1024), api.ErrRange},
+		{"65 zero ids", make([]api.Id, 65), api.ErrRange},
+		{"64 zero ids", make([]api.Id, 64), api.ErrRange},
+		{"64 times one id and one that is not valid", append(slices.Repeat(ids(t, "1.4"), 64), bad), api.ErrRange},
+		{"63 times one id and one that is not valid", append(slices.Repeat(ids(t, "1.4"), 63), bad), api.ErrRange},
 		{"1024 ids, the last not valid", put(row(1024), 1023, bad), api.ErrRange},
 		{"65 ids that fall, the last not valid", put(backwards(row(65)), 64, bad), api.ErrRange},
 	}
@@ -143,6 +155,8 @@ func badLists(t *testing.T) []list {
 			list{"an id that is not valid last", put(ids(t, "0.3 0.5 1.4"), 2, id), api.ErrRange},
 			list{"equal ids before one that is not valid", put(ids(t, "1.4 1.4 1.5"), 2, id), api.ErrRange},
 			list{"ids that fall behind one that is not valid", put(ids(t, "0.3 1.5 1.4"), 0, id), api.ErrRange},
+			list{"64 ids, the first not valid", put(row(64), 0, id), api.ErrRange},
+			list{"64 ids, the last not valid", put(row(64), 63, id), api.ErrRange},
 			list{"65 ids, the first not valid", put(row(65), 0, id), api.ErrRange},
 			list{"65 ids, the last not valid", put(row(65), 64, id), api.ErrRange},
 		)
@@ -213,11 +227,11 @@ func noCuts(t *testing.T) []known {
 		{"64 that go on from the vector", cut.Cut{V: api.Vec{0, 0, 0, 7}, D: run(3, 8, 64)}, api.ErrField},
 		{"57, the last one next", cut.Cut{V: with(api.Vec{}, 7, row(64)[56].Seq-1), D: row(64)[:57]}, api.ErrField},
 		{"64 times one", cut.Cut{D: slices.Repeat(ids(t, "7.7"), 64)}, api.ErrField},
-		{"65 times one", cut.Cut{D: slices.Repeat(ids(t, "7.7"), 65)}, api.ErrField},
-		{"65, 64 of them distinct", cut.Cut{D: put(row(65), 64, row(65)[63])}, api.ErrField},
-		{"64 twice", cut.Cut{D: slices.Repeat(row(64), 2)}, api.ErrField},
-		{"1024 times one", cut.Cut{D: slices.Repeat(ids(t, "7.7"), 1024)}, api.ErrField},
-		{"1024 times the next one", cut.Cut{V: same(6), D: slices.Repeat(ids(t, "7.7"), 1024)}, api.ErrField},
+		{"65 times one", cut.Cut{D: slices.Repeat(ids(t, "7.7"), 65)}, api.ErrLong},
+		{"65, 64 of them distinct", cut.Cut{D: put(row(65), 64, row(65)[63])}, api.ErrLong},
+		{"64 twice", cut.Cut{D: slices.Repeat(row(64), 2)}, api.ErrLong},
+		{"1024 times one", cut.Cut{D: slices.Repeat(ids(t, "7.7"), 1024)}, api.ErrLong},
+		{"1024 times the next one", cut.Cut{V: same(6), D: slices.Repeat(ids(t, "7.7"), 1024)}, api.ErrLong},
 	}
 }
 
@@ -227,7 +241,7 @@ func faulty(t *testing.T) []known {
 	out := noCuts(t)
 	for _, bad := range badLists(t) {
 		for _, v := range []api.Vec{{}, {0, 2}, same(maxCount)} {
-			out = append(out, known{bad.name, cut.Cut{V: v, D: bad.l}, bad.e})
+			out = append(out, known{bad.name, cut.Cut{V: v, D: bad.l}, bad.checked()})
 		}
 	}
 	for _, v := range badVectors() {
@@ -245,14 +259,15 @@ func few(t *testing.T) []known {
 		{"a vector that is not valid", of(t, api.Vec{0, maxCount + 1}, "1.4"), api.ErrRange},
 		{"a vector that is not valid and 65 ids", cut.Cut{V: same(math.MaxUint32), D: row(65)}, api.ErrRange},
 		{"an id that is not valid", cut.Cut{V: api.Vec{0, 2}, D: []api.Id{{Origin: 8, Seq: 4}}}, api.ErrRange},
-		{"65 ids, the last not valid", cut.Cut{D: put(row(65), 64, api.Id{})}, api.ErrRange},
+		{"65 ids, the last not valid", cut.Cut{D: put(row(65), 64, api.Id{})}, api.ErrLong},
+		{"64 ids, the last not valid", cut.Cut{D: put(row(64), 63, api.Id{})}, api.ErrRange},
 		{"65 ids", cut.Cut{V: api.Vec{0, 2}, D: row(65)}, api.ErrLong},
 		{"1025 zero ids", cut.Cut{D: make([]api.Id, 1025)}, api.ErrLong},
 		{"the next one", of(t, api.Vec{0, 2}, "1.3"), api.ErrField},
 		{"one within", of(t, api.Vec{0, 2}, "1.2 1.4"), api.ErrField},
 		{"ones that fall", of(t, api.Vec{0, 2}, "1.5 1.4"), api.ErrField},
 		{"one that comes again", of(t, api.Vec{0, 2}, "1.4 1.4"), api.ErrField},
-		{"64 twice", cut.Cut{D: slices.Repeat(row(64), 2)}, api.ErrField},
+		{"64 twice", cut.Cut{D: slices.Repeat(row(64), 2)}, api.ErrLong},
 	}
 }
 
